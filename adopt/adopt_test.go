@@ -82,6 +82,7 @@ func TestRun(t *testing.T) {
 		{"html body +b u p", "b", true, "html body p", "", "body(BODY b(B u(U)) p(b(P)))"},
 		{"html body +a div div", "a", true, "html body div div", "", "body(BODY a(A) div(a(DIV) div(a(DIV))))"},
 		{"html body +b td +i", "b", true, "html body b td i", "b* i*", "body(BODY b(B td(TD i(I))))"},
+		{"html body +b", "b", true, "html body", "", "body(BODY b(B))"},
 		{"html body p +b", "p", false, "html body p b", "b*", "body(BODY p(P b(B)))"},
 	} {
 		b := grown(x.names)
@@ -193,6 +194,27 @@ func TestEight(t *testing.T) {
 		names := strings.Fields(open(b))
 		if place := slices.Index(names, "a"); left != "" && place != 2+8 {
 			t.Errorf("%d blocks: open %q", n, names)
+		}
+	}
+}
+
+// P18.1 (4, 6): where new elements stand, in the list and in the stack, when it
+// was done eight times, and there are more blocks.
+func TestPlaces(t *testing.T) {
+	const divs = " div div div div div div div div"
+	for names, want := range map[string][2]string{
+		"html body +b":                         {"html body" + divs + " b div", "b* tt"},
+		"html body +b +i":                      {"html body i" + divs + " b div", "i* b* tt"},
+		"html body +b +i +u +s":                {"html body i u s" + divs + " b div", "i* u* s* b* tt"},
+		"html body +b +i +u +s +em":            {"html body u s em" + divs + " b div", "u* s* em* b* tt"},
+		"html body +b +i +u +s +em +big +code": {"html body em big code" + divs + " b div", "em* big* code* b* tt"},
+		"html body +b span +i":                 {"html body i" + divs + " b div", "i* b* tt"},
+		"html body +b +i span":                 {"html body i" + divs + " b div", "i* b* tt"},
+	} {
+		b := grown(names + divs + " div")
+		b.Formats().Push(b.Only(api.Token{Name: "tt"}))
+		if !adopt.Run(b, "b") || open(b) != want[0] || list(b) != want[1] {
+			t.Errorf("%q: open %q, list %q", names, open(b), list(b))
 		}
 	}
 }

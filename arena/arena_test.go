@@ -260,15 +260,15 @@ func TestShares(t *testing.T) {
 	i := a.Add(api.Node{Kind: api.NoElement, Attrs: attrs})
 	a.Append(0, i)
 	a.Append(0, 1)
-	was := a.Tree()
 	attrs[0].Value = "2"
 	n, tree := a.Node(i), a.Tree()
 	n.Attrs[0].Value, tree[i].Attrs[0].Value = "3", "4"
 	a.Node(0).Kids[0] = 9
 	tree[0].Kids[1] = 9
-	if !reflect.DeepEqual(a.Tree(), was) {
-		t.Errorf("%+v", a.Tree())
+	if got := a.Node(i).Attrs; !reflect.DeepEqual(got, []api.Attr{{Name: "x", Value: "1"}}) {
+		t.Errorf("attributes: %v", got)
 	}
+	checkKids(t, a, 0, i, 1)
 }
 
 // P14.7: what follows, of whatever is done.

@@ -179,7 +179,10 @@ func TestBlocks(t *testing.T) {
 		check(t, "<p><b>x<"+name+">y", "p(b(x)) "+name+"(b(y))", name+" b")
 		check(t, "<p><button><"+name+">", "p(button("+name+"()))", "p button "+name)
 	}
-	check(t, "<p><h1><h2>x", "p() h1() h2(x)", "h2")
+	for _, name := range strings.Fields("h1 h2 h3 h4 h5 h6") {
+		check(t, "<p><h4><"+name+">x", "p() h4() "+name+"(x)", name)
+		check(t, "<p><"+name+"><h2>x", "p() "+name+"() h2(x)", "h2")
+	}
 	check(t, "<h3><b><h3>", "h3(b(h3()))", "h3 b h3")
 	check(t, "<h6><div><h6>", "h6(div(h6()))", "h6 div h6")
 	for _, name := range []string{"pre", "listing"} {
@@ -422,6 +425,13 @@ func TestEndItems(t *testing.T) {
 	check(t, "<dt><object></dt>x", "dt(object(x))", "dt object")
 	check(t, "<dd></dt>x", "dd(x)", "dd")
 	check(t, "<dd><dt></dt>", "dd() dt()", "")
+	check(t, "<dt><div></dt>x", "dt(div()) x", "")
+	check(t, "<dd><div></dd>x", "dd(div()) x", "")
+	check(t, "<li><div></li>x", "li(div()) x", "")
+	for _, name := range strings.Fields("h1 h2 h3 h4 h5 h6") {
+		check(t, "<"+name+"><div></h3>x", name+"(div()) x", "")
+		check(t, "<h3><div></"+name+">x", "h3(div()) x", "")
+	}
 	check(t, "<h1><i></h3>x", "h1(i()) i(x)", "i")
 	check(t, "<h1><h2><object></h1>x", "h1() h2(object(x))", "h2 object")
 	check(t, "</h1>x", "x", "")

@@ -381,6 +381,10 @@ func TestRebuild(t *testing.T) {
 	if i, _ := b.Formats().At(0); i != 4 {
 		t.Errorf("in the list: %d", i)
 	}
+	b = grown("b")
+	b.Formats().Push(1)
+	b.Rebuild()
+	checkInts(t, "the first one is open", open(b), []int{1})
 	b = grown("html", "body")
 	tag := start("i", "x", "1")
 	tag.Dup = true
@@ -487,6 +491,11 @@ func TestReset(t *testing.T) {
 	b.Push(builder.MoRow)
 	if b.Reset(); b.Mode() != builder.MoRow {
 		t.Errorf("template modes: %d", b.Mode())
+	}
+	b = grown("html", "template")
+	b.Push(builder.MoCell)
+	if b.Reset(); b.Mode() != builder.MoCell {
+		t.Errorf("one template mode: %d", b.Mode())
 	}
 	b = grown("html")
 	b.SetHead(0)

@@ -106,6 +106,25 @@ func TestLast(t *testing.T) {
 	}
 }
 
+// P16.1, P16.3: the first entry.
+func TestFirst(t *testing.T) {
+	_, l := some()
+	l.Push(1)
+	if l.Index(1) != 0 || l.Last("b") != 1 {
+		t.Errorf("index %d, last %d", l.Index(1), l.Last("b"))
+	}
+	checkErr(t, "remove", l.Remove(1), api.OK)
+	checkEntries(t, l)
+	l.Mark()
+	l.Push(2)
+	l.Clear()
+	checkEntries(t, l)
+	l.Mark()
+	l.Mark()
+	l.Clear()
+	checkEntries(t, l, marker)
+}
+
 // P16.2: Push, and what goes.
 func TestPush(t *testing.T) {
 	a, l := some()

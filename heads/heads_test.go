@@ -160,6 +160,9 @@ func TestHead(t *testing.T) {
 	}
 	check(t, d+"<noscript>", builder.MoNoscript, "html head noscript", "(html(head(noscript())))")
 	check(t, d+"</head>", builder.MoAfterHead, "html", "(html(head()))")
+	if b = fed(d); heads.Step(b, one("</head>")) {
+		t.Error("head ends: again")
+	}
 	for _, text := range []string{"x", "<p>", "</html>", "</body>", "</br>", "\x00", "<body>"} {
 		b := fed(d)
 		if !heads.Step(b, one(text)) || b.Mode() != builder.MoAfterHead || open(b) != "html" {
@@ -221,6 +224,9 @@ func TestNoscript(t *testing.T) {
 	check(t, d+"<basefont><bgsound><link><meta>", mode, o, "(html(head(noscript(basefont() bgsound() link() meta()))))")
 	check(t, d+"<style>x</style><noframes>y</noframes><html z>", mode, o, "(html(head(noscript(style('x') noframes('y')))))")
 	check(t, d+"</noscript>", builder.MoHead, "html head", "(html(head(noscript())))")
+	if b := fed(d); heads.Step(b, one("</noscript>")) {
+		t.Error("noscript ends: again")
+	}
 	for _, text := range []string{"x", "<p>", "</br>", "<base>", "<script>", "<title>", "<template>", "\x00", "<body>"} {
 		b := fed(d)
 		if !heads.Step(b, one(text)) || b.Mode() != builder.MoHead || open(b) != "html head" {
@@ -235,6 +241,9 @@ func TestAfterHead(t *testing.T) {
 	const mode = builder.MoAfterHead
 	check(t, d+" <!--c--><!doctype x><head><frameset></p></head></x><html y=1>", mode, "html", "(html(head() ' ' #c))")
 	check(t, d+"<body a>", builder.MoBody, "html body", "(html(head() body()))")
+	if b := fed(d); heads.Step(b, one("<body a>")) || len(b.Current().Attrs) != 1 || b.Current().From != 0 {
+		t.Errorf("body starts: %+v", b.Current())
+	}
 	check(t, d+"<meta><base><title>x</title><script>y</script>", mode, "html", "(html(head(meta() base() title('x') script('y'))))")
 	b := check(t, d+"<template>", builder.MoTemplate, "html template", "(html(head(template(()))))")
 	if heads.Head(b, one("</template>")); b.Mode() != mode || open(b) != "html" {

@@ -122,6 +122,9 @@ func TestSchemes(t *testing.T) {
 		check(t, own, url, "*", want)
 	}
 	check(t, "data:x", "data:1", "*", true)
+	check(t, "data:x", "https://x/", "*", true)
+	check(t, "data:x", "http://x/", "*", true)
+	check(t, "data:x", "ws://x/", "*", false)
 	check(t, "ws://x", "ws://y", "*", true)
 	check(t, "ws://x", "wss://y", "*", false)
 	star := api.Source{Kind: api.SoHost, Wild: true, Port: api.PortNone, Text: "x"}

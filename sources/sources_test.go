@@ -74,6 +74,26 @@ func TestHosts(t *testing.T) {
 	}
 }
 
+// P25.1: which bytes nonces, schemes, and labels have.
+func TestEachByte(t *testing.T) {
+	const letters = "0123456789ABCDEFGHIJKLMNOPQRSTUVWXYZabcdefghijklmnopqrstuvwxyz"
+	for i := range 256 {
+		c := string([]byte{byte(i)})
+		for _, x := range []struct {
+			source, more string
+			kind         int
+		}{{"'nonce-a" + c + "b'", "+/-_", api.SoNonce}, {"'sha512-" + c + "b'", "+/-_", api.SoHash}, {"a" + c + "b:", "-+.", api.SoScheme}, {c + "b:", "", api.SoScheme}, {"a." + c + "b", "-", api.SoHost}, {"*." + c, "-", api.SoHost}} {
+			want := strings.Contains(letters+x.more, c)
+			if x.source == c+"b:" {
+				want = strings.Contains(letters[10:], c)
+			}
+			if got, e := sources.Parse(x.source); (e == api.OK && got.Kind == x.kind) != want {
+				t.Errorf("Parse(%q) = %+v, %d", x.source, got, e)
+			}
+		}
+	}
+}
+
 // P25.2: List.
 func TestList(t *testing.T) {
 	got := sources.List([]string{"'self'", "'none'", "a..b", "https:", "a", "'self'", ""})

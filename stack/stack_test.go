@@ -111,6 +111,15 @@ func TestChanges(t *testing.T) {
 	for _, i := range []int{0, template, -1, 99} {
 		checkErr(t, "remove", s.Remove(i), api.ErrNone)
 	}
+	checkErr(t, "insert", s.Insert(0, 2), api.OK)
+	checkErr(t, "insert", s.Insert(0, template), api.OK)
+	checkErr(t, "remove the first one", s.Remove(template), api.OK)
+	checkNodes(t, s, 2, p, 1, p, 2)
+	checkErr(t, "remove", s.Remove(2), api.OK)
+	checkErr(t, "remove the first one", s.Remove(2), api.OK)
+	checkErr(t, "remove", s.Remove(2), api.ErrNone)
+	checkErr(t, "insert", s.Insert(4-1, 2), api.OK)
+	checkNodes(t, s, p, 1, p, 2)
 	for _, want := range []int{2, p, 1, p, -1, -1} {
 		if got := s.Pop(); got != want {
 			t.Errorf("Pop = %d, want %d", got, want)

@@ -103,6 +103,37 @@ func ignored(t *testing.T, text, tags string) {
 		if tables.Step(b, one(tag)) || open(b) != was || b.Arena().Len() != nodes || b.Mode() != mode {
 			t.Errorf("%q, %s: open %q, mode %d", text, tag, open(b), b.Mode())
 		}
+		if one(tag).Kind != api.ToEnd || mode == builder.MoCell && strings.Contains("</th> </tfoot> </thead>", tag) || mode == builder.MoRow && strings.Contains("</tfoot> </thead>", tag) || mode == builder.MoTableBody && strings.Contains("</tbody> </tfoot>", tag) || mode == builder.MoTemplate {
+			continue
+		}
+		// An element of that name is open, and could be ended.
+		b = fresh()
+		b.Imply(one(tag).Name)
+		b.Set(mode)
+		if tables.Step(b, one(tag)) || b.Stack().Len() != 3 || b.Arena().Len() != 4 || b.Mode() != mode {
+			t.Errorf("mode %d, %s: open %q, mode %d", mode, tag, open(b), b.Mode())
+		}
+	}
+}
+
+// P21.1: what is cut ends at html, and where nothing is open.
+func TestCut(t *testing.T) {
+	for mode, tags := range map[int]string{builder.MoTable: "<caption> <colgroup> <tbody>", builder.MoTableBody: "<tr>", builder.MoRow: "<td> <th>"} {
+		for _, tag := range strings.Fields(tags) {
+			b := fresh()
+			b.Set(mode)
+			tables.Step(b, one(tag))
+			if b.Stack().Len() != 2 || b.Stack().At(0) != 1 || !b.Is(one(tag).Name) {
+				t.Errorf("mode %d, %s: %d open", mode, tag, b.Stack().Len())
+			}
+			b = builder.New()
+			b.Imply("p")
+			b.Set(mode)
+			tables.Step(b, one(tag))
+			if b.Stack().Len() != 1 || !b.Is(one(tag).Name) {
+				t.Errorf("mode %d, %s, nothing is left: %d open", mode, tag, b.Stack().Len())
+			}
+		}
 	}
 }
 
@@ -280,6 +311,7 @@ func TestColumns(t *testing.T) {
 	if feed(b, "</template>"); open(b) != "table colgroup" || b.Mode() != builder.MoColumns {
 		t.Errorf("template ends: open %q, mode %d", open(b), b.Mode())
 	}
+	check(t, "<template><col></template>x", "template(col()) x", "", builder.MoBody)
 	b = fed(text)
 	if tables.Step(b, one("</colgroup>")) || open(b) != "table" || b.Mode() != builder.MoTable {
 		t.Error("colgroup ends")
@@ -359,6 +391,12 @@ func TestRow(t *testing.T) {
 	}
 	ignored(t, text, "</tfoot> </thead> </body> </caption> </col> </colgroup> </html> </td> </th>")
 	check(t, text+"x<table>", "x table(tbody(tr())) table()", "table", builder.MoTable)
+	for _, name := range []string{"tbody", "tfoot", "thead"} {
+		b := fed("<table><" + name + "><tr><b>")
+		if !tables.Step(b, one("</"+name+">")) || open(b) != "table "+name || b.Mode() != builder.MoTableBody {
+			t.Errorf("%s ends: open %q, mode %d", name, open(b), b.Mode())
+		}
+	}
 	for _, tag := range strings.Fields("<caption> <tr> </table> </tbody> </tr>") {
 		b := fed("<table><tbody>")
 		b.Set(builder.MoRow)
@@ -394,6 +432,12 @@ func TestCell(t *testing.T) {
 		b.Set(builder.MoCell)
 		if tables.Step(b, one(tag)) || open(b) != "table tbody tr" || b.Mode() != builder.MoCell {
 			t.Errorf("no cell: %s: open %q, mode %d", tag, open(b), b.Mode())
+		}
+	}
+	for _, name := range []string{"tbody", "tfoot", "thead"} {
+		b := fed("<table><" + name + "><td><i><p>")
+		if !tables.Step(b, one("</"+name+">")) || open(b) != "table "+name+" tr" || b.Mode() != builder.MoRow {
+			t.Errorf("%s ends: open %q, mode %d", name, open(b), b.Mode())
 		}
 	}
 	check(t, "<table><td>1<td>2<tr><th>3</table>4", "table(tbody(tr(td(1) td(2)) tr(th(3)))) 4", "", builder.MoBody)

@@ -11,11 +11,11 @@ import (
 	"lazaret/tags"
 )
 
-// read asks for a tag that is all of s, or is followed by an x.
+// read asks for a tag that is all of s, or is followed by an x, or by b>x.
 func read(t *testing.T, s string) api.Token {
 	t.Helper()
 	tag, next, ok := tags.Read(s, 0)
-	if !ok || tag.From != 0 || tag.To != next || s[next:] != "" && s[next:] != "x" {
+	if !ok || tag.From != 0 || tag.To != next || s[next:] != "" && s[next:] != "x" && s[next:] != "b>x" {
 		t.Errorf("Read(%q) = %+v, %d, %v", s, tag, next, ok)
 	}
 	return tag
@@ -45,6 +45,33 @@ func TestAttributes(t *testing.T) {
 		}
 		if !slices.Equal(got, want) {
 			t.Errorf("Read(%q): %q, want %q", s, got, want)
+		}
+	}
+}
+
+// P10.1: which bytes end names and values, and which do not.
+func TestEachByte(t *testing.T) {
+	for i := range 256 {
+		c := string([]byte{byte(i)})
+		blank := strings.Contains("\t\n\f ", c)
+		told := strings.ToLower(c)
+		if i == 0 || i > 127 {
+			told = strings.ReplaceAll(c, "\x00", "\ufffd")
+		}
+		name := read(t, "<a"+c+"b>x")
+		if ends := blank || c == "/" || c == ">"; ends != (name.Name == "a") || !ends && name.Name != "a"+told+"b" {
+			t.Errorf("a name with byte %d: %q", i, name.Name)
+		}
+		if c == ">" {
+			continue
+		}
+		attr := read(t, "<a b"+c+"c>").Attrs
+		if whole := len(attr) == 1 && attr[0].Name == "b"+told+"c"; whole == (blank || c == "/" || c == "=") {
+			t.Errorf("an attribute's name with byte %d: %+v", i, attr)
+		}
+		attr = read(t, "<a b=c"+c+"d>").Attrs
+		if value := strings.ReplaceAll(c, "\x00", "\ufffd"); (attr[0].Value == "c"+value+"d") == blank {
+			t.Errorf("a value with byte %d: %+v", i, attr)
 		}
 	}
 }

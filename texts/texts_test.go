@@ -51,6 +51,44 @@ func TestDecodeBrokenParts(t *testing.T) {
 	}
 }
 
+// two is what two bytes are decoded to, told by the library's idea of what may
+// still become a character.
+func two(a, b byte) string {
+	s := string([]byte{a, b})
+	switch {
+	case utf8.ValidString(s):
+		return s
+	case a < 0x80:
+		return string(rune(a)) + x
+	case !utf8.FullRuneInString(s):
+		return x
+	case b < 0x80:
+		return x + string(rune(b))
+	}
+	return x + x
+}
+
+// P1.1: every pair of bytes, and what the bytes behind it make of it.
+func TestDecodePairs(t *testing.T) {
+	for a := range 256 {
+		for b := range 256 {
+			s := string([]byte{byte(a), byte(b)})
+			want := two(byte(a), byte(b))
+			if got := texts.Decode(s); got != want {
+				t.Errorf("Decode(%x) = %x, want %x", s, got, want)
+			}
+			if got := texts.Decode(s + "a"); got != want+"a" {
+				t.Errorf("Decode(%x61) = %x, want %x", s, got, want)
+			}
+			for _, more := range []string{"\x80", "\x80\x80"} {
+				if whole := s + more; utf8.ValidString(whole) && utf8.RuneCountInString(whole) == 1 && texts.Decode(whole+"a") != strings.TrimPrefix(whole, mark)+"a" {
+					t.Errorf("Decode(%x) = %x", whole, texts.Decode(whole))
+				}
+			}
+		}
+	}
+}
+
 // P1.1: the mark goes from the front alone, and once.
 func TestDecodeMark(t *testing.T) {
 	for b, want := range map[string]string{

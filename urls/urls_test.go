@@ -77,7 +77,7 @@ func TestFiles(t *testing.T) {
 	}
 	base := parse(t, "file://h/C:/a/b?q#f", nil)
 	for s, want := range map[string]string{
-		"": "file://h/C:/a/b?q", "?r": "file://h/C:/a/b?r", "#g": "file://h/C:/a/b?q#g", "x": "file://h/C:/a/x", "../..": "file://h/C:/", "../../../x": "file://h/C:/x", "/x": "file://h/C:/x", "\\x": "file://h/C:/x", "/D:/x": "file://h/D:/x", "/D|": "file://h/D:", "D|/x": "file://h/D:/x", "D:x": "", "//i/x": "file://i/x", "//": "file:///", "///x": "file:///x", "file:x": "file://h/C:/a/x", "file:": "file://h/C:/a/b?q", "file:/x": "file://h/C:/x", "file:///x": "file:///x", "/1:/x": "file://h/C:/1:/x", "/Dx:": "file://h/C:/Dx:", "//D|/x": "file:///D:/x",
+		"": "file://h/C:/a/b?q", "?r": "file://h/C:/a/b?r", "#g": "file://h/C:/a/b?q#g", "x": "file://h/C:/a/x", "../..": "file://h/C:/", "../../../x": "file://h/C:/x", "/x": "file://h/C:/x", "\\x": "file://h/C:/x", "/D:/x": "file://h/D:/x", "/D|": "file://h/D:", "/D:\\x": "file://h/D:/x", "/Dx\\y": "file://h/C:/Dx/y", "/D:x": "file://h/C:/D:x", "D|\\x": "file://h/D:/x", "D|/x": "file://h/D:/x", "D:x": "", "//i/x": "file://i/x", "//": "file:///", "///x": "file:///x", "file:x": "file://h/C:/a/x", "file:": "file://h/C:/a/b?q", "file:/x": "file://h/C:/x", "file:///x": "file:///x", "/1:/x": "file://h/C:/1:/x", "/Dx:": "file://h/C:/Dx:", "//D|/x": "file:///D:/x",
 	} {
 		if want == "" {
 			checkText(t, s, &base, "d:x")
@@ -87,6 +87,9 @@ func TestFiles(t *testing.T) {
 	}
 	other := parse(t, "file:///a/b", nil)
 	checkText(t, "/x", &other, "file:///x")
+	drive := parse(t, "file:///C:", nil)
+	checkText(t, "/x", &drive, "file:///C:/x")
+	checkText(t, "x", &drive, "file:///C:/x")
 	checkText(t, "c", &other, "file:///a/c")
 	web := parse(t, "http://h/C:/x", nil)
 	checkText(t, "file:/y", &web, "file:///y")
@@ -99,7 +102,7 @@ func TestRelative(t *testing.T) {
 	base := parse(t, "http://u:p@h:81/a/b?q#f", nil)
 	for s, want := range map[string]string{
 		"": "http://u:p@h:81/a/b?q", "#f": "http://u:p@h:81/a/b?q#f", "?": "http://u:p@h:81/a/b?", "?r": "http://u:p@h:81/a/b?r", "x": "http://u:p@h:81/a/x", "../x": "http://u:p@h:81/x", "./": "http://u:p@h:81/a/", ".": "http://u:p@h:81/a/", "..": "http://u:p@h:81/", "/x": "http://u:p@h:81/x", "\\x": "http://u:p@h:81/x", "//i": "http://i/", "\\\\j\\k": "http://j/k", "/\\j": "http://j/", "////j": "http://j/", "//i:82/x?y": "http://i:82/x?y",
-		"http:": "http://u:p@h:81/a/b?q", "http:x": "http://u:p@h:81/a/x", "http:/x": "http://u:p@h:81/x", "http:\\\\i": "http://i/", "http://i": "http://i/", "https:x": "https://x/", "https:/x": "https://x/", "b:x": "b:x", "1:x": "http://u:p@h:81/a/1:x", ":x": "http://u:p@h:81/a/:x", "x:": "x:", "a/b:c": "http://u:p@h:81/a/a/b:c", "?a:b": "http://u:p@h:81/a/b?a:b", " x ": "http://u:p@h:81/a/x", "C|": "http://u:p@h:81/a/C|", "?'": "http://u:p@h:81/a/b?%27",
+		"http:": "http://u:p@h:81/a/b?q", "http:x": "http://u:p@h:81/a/x", "http:/x": "http://u:p@h:81/x", "http:\\\\i": "http://i/", "http://i": "http://i/", "https:x": "https://x/", "https:/x": "https://x/", "b:x": "b:x", "1:x": "http://u:p@h:81/a/1:x", ":x": "http://u:p@h:81/a/:x", "x:": "x:", "a/b:c": "http://u:p@h:81/a/a/b:c", "?a:b": "http://u:p@h:81/a/b?a:b", " x ": "http://u:p@h:81/a/x", " ": "http://u:p@h:81/a/b?q", "\x00 \x1f": "http://u:p@h:81/a/b?q", "!": "http://u:p@h:81/a/!", "!x!": "http://u:p@h:81/a/!x!", "\x7f": "http://u:p@h:81/a/%7F", "C|": "http://u:p@h:81/a/C|", "?'": "http://u:p@h:81/a/b?%27",
 	} {
 		checkText(t, s, &base, want)
 	}
