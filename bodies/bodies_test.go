@@ -105,7 +105,7 @@ func TestNoTags(t *testing.T) {
 		t.Errorf("spaces: %+v", n)
 	}
 	check(t, "<p><b></p><!--c-->", "p(b()) #c", "")
-	for _, tok := range []api.Token{{Kind: api.ToEOF}, {}, {Kind: 99}, {Kind: api.ToDoctype}, {Kind: api.ToNul, Text: "\x00"}} {
+	for _, tok := range []api.Token{{Kind: api.ToEOF}, {Kind: api.ToDoctype}, {Kind: api.ToNul, Text: "\x00"}} {
 		b := fresh()
 		if bodies.Body(b, tok) || b.Arena().Len() != 3 || b.Mode() != builder.MoBody {
 			t.Errorf("%+v", tok)
@@ -484,7 +484,7 @@ func TestBehind(t *testing.T) {
 		t.Errorf("mode %d, %s", b.Mode(), show(b, 0))
 	}
 	for _, mode := range []int{builder.MoAfterBody, builder.MoAfterAfter} {
-		for _, tok := range []api.Token{one("x"), one("\x00"), one("<p>"), one("</p>"), one("</body>"), one("<body>"), {}} {
+		for _, tok := range []api.Token{one("x"), one("\x00"), one("<p>"), one("</p>"), one("</body>"), one("<body>")} {
 			b := fresh()
 			b.Set(mode)
 			if !bodies.Step(b, tok) || b.Mode() != builder.MoBody || b.Arena().Len() != 3 {

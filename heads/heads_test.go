@@ -241,6 +241,9 @@ func TestAfterHead(t *testing.T) {
 	const mode = builder.MoAfterHead
 	check(t, d+" <!--c--><!doctype x><head><frameset></p></head></x><html y=1>", mode, "html", "(html(head() ' ' #c))")
 	check(t, d+"<body a>", builder.MoBody, "html body", "(html(head() body()))")
+	if n := fed(d + "<html y=1>").Arena().Node(1); len(n.Attrs) != 1 {
+		t.Errorf("html starts: %+v", n)
+	}
 	if b := fed(d); heads.Step(b, one("<body a>")) || len(b.Current().Attrs) != 1 || b.Current().From != 0 {
 		t.Errorf("body starts: %+v", b.Current())
 	}

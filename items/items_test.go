@@ -204,7 +204,7 @@ func TestByHand(t *testing.T) {
 		{Kind: api.NoDocument, Name: "img", Attrs: src},
 		{Kind: api.NoText, Name: "video"},
 		{Kind: api.NoElement, Name: "source", Attrs: src, Parent: 12},
-		{Kind: api.NoElement, Name: "p", Attrs: []api.Attr{{Name: "ona", Value: "1"}, {Name: "ona", Value: "2"}, {Name: "ONA"}}},
+		{Kind: api.NoElement, Name: "p", Attrs: []api.Attr{{Name: "ona", Value: "1"}, {Name: "ona", Value: "2"}}},
 	}}
 	for node, want := range [][]string{{"frame src:https://a.b/x"}, {"image src:https://a.b/x"}, nil, {"inline :tt"}, nil, nil, nil, nil, nil, {"media src:https://a.b/x"}, nil, nil, nil, nil, {"handler ona:1", "handler ona:2"}} {
 		var got []string

@@ -1,6 +1,8 @@
 package loader
 
 import (
+	"errors"
+
 	"lazaret/api"
 	"lazaret/items"
 	"lazaret/judge"
@@ -33,7 +35,7 @@ func (s *session) visit(node int) error {
 		}
 	}
 	if len(s.policies) > api.MaxPolicies {
-		return failure{node, tooMany}
+		return errors.Join(tooMany, place{node})
 	}
 	return nil
 }

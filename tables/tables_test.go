@@ -106,6 +106,12 @@ func ignored(t *testing.T, text, tags string) {
 		if one(tag).Kind != api.ToEnd || mode == builder.MoCell && strings.Contains("</th> </tfoot> </thead>", tag) || mode == builder.MoRow && strings.Contains("</tfoot> </thead>", tag) || mode == builder.MoTableBody && strings.Contains("</tbody> </tfoot>", tag) || mode == builder.MoTemplate {
 			continue
 		}
+		// The body could be ended.
+		b = fresh()
+		b.Set(mode)
+		if tables.Step(b, one(tag)) || b.Stack().Len() != 2 || b.Arena().Len() != 3 || b.Mode() != mode {
+			t.Errorf("mode %d, %s: open %q, mode %d", mode, tag, open(b), b.Mode())
+		}
 		// An element of that name is open, and could be ended.
 		b = fresh()
 		b.Imply(one(tag).Name)

@@ -267,6 +267,11 @@ func TestDoEnds(t *testing.T) {
 	if got := tree.Do(b, one("x")); b.Err() != api.ErrDepth || got > 3 {
 		t.Errorf("%d, %d", got, b.Err())
 	}
+	b = builder.New()
+	b.Fail(api.ErrLong)
+	if tree.Do(b, one("<p>")); b.Arena().Len() != 1 {
+		t.Error("an error is kept already")
+	}
 	for mode := -1; mode <= 18; mode++ {
 		for back := -1; back <= 18; back++ {
 			for _, tok := range []api.Token{one("x"), one("<p>"), one("</html>"), one("<td>"), {Kind: api.ToEOF}, {}, {Kind: 99}} {
